@@ -171,13 +171,8 @@ func RenumberNodes(n Network, perm []int) (Network, bool) {
 
 // KeepNodes returns the network of the nodes in keep, an increasing list of at least one node, in this order, with the edges that have all their ports at these nodes; the ports that are left of a node keep their order.
 func KeepNodes(n Network, keep []int) (Network, bool) {
-	if !IsNetwork(n) || len(keep) == 0 {
+	if !IsNetwork(n) || len(keep) == 0 || !isIncreasing(keep, 0, len(n.Ends)-1) {
 		return Network{}, false
-	}
-	for k, v := range keep {
-		if !hasNode(n, v) || k > 0 && v <= keep[k-1] {
-			return Network{}, false
-		}
 	}
 	return portChange{kind: nodesKept, before: n, list: keep}.after(), true
 }
