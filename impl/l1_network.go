@@ -211,13 +211,19 @@ func areMutualEnds(ends [][]End) bool {
 		if len(list) > MaxDegree {
 			return false
 		}
-		for i, e := range list {
-			if !hasPort(ends, e) || ends[e.Node][e.Port] != (End{v, i}) {
+		for i := range list {
+			if !isMutual(ends, End{v, i}) {
 				return false
 			}
 		}
 	}
 	return true
+}
+
+// isMutual reports whether the port p is joined with one that is joined with it.
+func isMutual(ends [][]End, p End) bool {
+	e := ends[p.Node][p.Port]
+	return hasPort(ends, e) && ends[e.Node][e.Port] == p
 }
 
 // areIds reports whether ids may be the Ids of a network with that number of nodes.

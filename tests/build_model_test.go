@@ -15,14 +15,15 @@ func zeroInputs(n impl.Network) impl.Network {
 	return n
 }
 
-// edgeByEdge makes a network from nodes without ports: each edge gives a new last port to both of its nodes.
+// edgeByEdge makes a network from nodes without ports: each edge gives a new last port to both of its nodes, or to the only one of a stub.
 func edgeByEdge(nodes int, edges [][]int) impl.Network {
 	m := model{ports: make([][]int, nodes), mate: map[int]int{}, inputs: make([]int, nodes)}
 	for k, e := range edges {
-		x, y := 2*k, 2*k+1
-		m.ports[e[0]] = append(m.ports[e[0]], x)
-		m.ports[e[1]] = append(m.ports[e[1]], y)
+		x, y := 2*k, 2*k+len(e)-1
 		m.mate[x], m.mate[y] = y, x
+		for i, v := range e {
+			m.ports[v] = append(m.ports[v], 2*k+i)
+		}
 	}
 	return m.network()
 }
