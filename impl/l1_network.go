@@ -107,17 +107,7 @@ func UnionOf(a Network, b Network) (Network, bool) {
 	if !IsNetwork(a) || !IsNetwork(b) || (len(a.Ids) == 0) != (len(b.Ids) == 0) {
 		return Network{}, false
 	}
-	u := copyNetwork(a)
-	for _, list := range b.Ends {
-		renumbered := make([]End, len(list))
-		for i, e := range list {
-			renumbered[i] = End{len(a.Ends) + e.Node, e.Port}
-		}
-		u.Ends = append(u.Ends, renumbered)
-	}
-	u.Ids = append(u.Ids, b.Ids...)
-	u.Inputs = append(u.Inputs, b.Inputs...)
-	return networkOrNone(u)
+	return networkOrNone(sideBySide(a, b))
 }
 
 // AddEdge returns the network with a new port behind the others of v, and another one of w, which are joined; if v and w are equal, the two new ports of this node are joined.
@@ -288,6 +278,21 @@ func copyNetwork(n Network) Network {
 	m.Ids = append([]int(nil), n.Ids...)
 	m.Inputs = append([]int(nil), n.Inputs...)
 	return m
+}
+
+// sideBySide returns the nodes of a followed by those of b, which are renumbered. They may be too many for a network.
+func sideBySide(a Network, b Network) Network {
+	u := copyNetwork(a)
+	for _, list := range b.Ends {
+		renumbered := make([]End, len(list))
+		for i, e := range list {
+			renumbered[i] = End{len(a.Ends) + e.Node, e.Port}
+		}
+		u.Ends = append(u.Ends, renumbered)
+	}
+	u.Ids = append(u.Ids, b.Ids...)
+	u.Inputs = append(u.Inputs, b.Inputs...)
+	return u
 }
 
 // networkOrNone fails where a result has outgrown the limits or repeats an identifier.
