@@ -255,6 +255,11 @@ func leadsTo(list []End, v int) bool {
 	return false
 }
 
+// isStub reports whether an edge in the form of EdgesOf is a stub.
+func isStub(edge []int) bool {
+	return edge[0] == edge[2] && edge[1] == edge[3]
+}
+
 // isPermutation reports whether perm is a permutation of count numbers.
 func isPermutation(perm []int, count int) bool {
 	if len(perm) != count {
