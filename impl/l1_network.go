@@ -234,15 +234,7 @@ func areIds(ids []int, nodes int) bool {
 
 // areInputs reports whether inputs may be the Inputs of a network with that number of nodes.
 func areInputs(inputs []int, nodes int) bool {
-	if len(inputs) != nodes {
-		return false
-	}
-	for _, x := range inputs {
-		if x < 0 || x > MaxInput {
-			return false
-		}
-	}
-	return true
+	return len(inputs) == nodes && areBetween(inputs, 0, MaxInput)
 }
 
 // leadsTo reports whether a port of node v is in the list.
