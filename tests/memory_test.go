@@ -54,6 +54,8 @@ func filler(t reflect.Type) reflect.Value {
 	switch t.Kind() {
 	case reflect.Int:
 		v.SetInt(3)
+	case reflect.String:
+		v.SetString("6.9")
 	case reflect.Struct:
 		for i := range t.NumField() {
 			v.Field(i).Set(filler(t.Field(i).Type))

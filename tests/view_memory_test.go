@@ -75,22 +75,24 @@ func TestViewsOfSampleNetworksKeepToTheirMemory(t *testing.T) {
 	}
 }
 
+// placeOf returns the memory of the bytes of a string.
+func placeOf(s string) stretch {
+	first := uintptr(unsafe.Pointer(unsafe.StringData(s)))
+	return stretch{first, first + uintptr(len(s))}
+}
+
 // TestPartsOfAViewAreNewMemory looks at the bytes of strings, which no other test can tell apart.
 func TestPartsOfAViewAreNewMemory(t *testing.T) {
-	place := func(s string) stretch {
-		first := uintptr(unsafe.Pointer(unsafe.StringData(s)))
-		return stretch{first, first + uintptr(len(s))}
-	}
 	for _, s := range []string{"1.0(0:1.0)", "2.2(0:2.2(0:2.2,0:1.1),0:1.1(1:2.2))", chain(80)} {
 		for depth := range 3 {
-			if cut, ok := impl.CutView(s, depth); !ok || meet(place(cut), place(s)) {
+			if cut, ok := impl.CutView(s, depth); !ok || meet(placeOf(cut), placeOf(s)) {
 				t.Errorf("%q cut to %d shares memory with it: %v", s, depth, ok)
 			}
 		}
-		if cut, ok := impl.CutView(s, 80); !ok || meet(place(cut), place(s)) {
+		if cut, ok := impl.CutView(s, 80); !ok || meet(placeOf(cut), placeOf(s)) {
 			t.Errorf("%q that is not cut shares memory with itself: %v", s, ok)
 		}
-		if child, _, ok := impl.ChildView(s, 0); !ok || meet(place(child), place(s)) {
+		if child, _, ok := impl.ChildView(s, 0); !ok || meet(placeOf(child), placeOf(s)) {
 			t.Errorf("a part of %q shares memory with it: %v", s, ok)
 		}
 	}
