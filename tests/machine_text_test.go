@@ -173,27 +173,6 @@ func TestShortTextsOfMachines(t *testing.T) {
 	}
 }
 
-// disturbedMachine changes a text at one place, or some of its words or lines.
-func disturbedMachine(r *rand.Rand, s string) string {
-	bytes := "0123456789** \n\n\t\r\x00-+then"
-	at, b := r.Intn(len(s)), r.Intn(len(bytes))
-	switch r.Intn(6) {
-	case 0:
-		return shuffled(r, s, "\n")
-	case 1:
-		return shuffled(r, s, " ")
-	case 2:
-		return s[:at] + s[at+1:]
-	case 3:
-		return s[:at] + bytes[b:b+1] + s[at:]
-	case 4:
-		lines := strings.SplitAfter(s, "\n")
-		r.Shuffle(len(lines)-1, func(i, j int) { lines[i], lines[j] = lines[j], lines[i] })
-		return strings.Join(lines, "")
-	}
-	return s[:at] + bytes[b:b+1] + s[at+1:]
-}
-
 func TestDisturbedTextsOfMachines(t *testing.T) {
 	r := rand.New(rand.NewSource(101))
 	counts := map[bool]int{}
@@ -202,7 +181,7 @@ func TestDisturbedTextsOfMachines(t *testing.T) {
 		m.Clauses = m.Clauses[:min(len(m.Clauses), k%8)]
 		text := machineTextByHand(m)
 		for range 1 + k%2 {
-			text = disturbedMachine(r, text)
+			text = disturbedLines(r, text, "0123456789** \n\n\t\r\x00-+then")
 		}
 		counts[wantMachine(t, text)]++
 	}

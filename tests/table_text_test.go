@@ -135,36 +135,13 @@ func TestShortTextsOfTables(t *testing.T) {
 	}
 }
 
-// disturbedTable changes a text at one place, or some of its words or lines.
-func disturbedTable(r *rand.Rand, s string) string {
-	bytes := "0123456789.:,() \n\n\t\r\x00-+"
-	at, b := r.Intn(len(s)), r.Intn(len(bytes))
-	switch r.Intn(7) {
-	case 0:
-		return shuffled(r, s, "\n")
-	case 1:
-		return shuffled(r, s, " ")
-	case 2:
-		return s[:at] + s[at+1:]
-	case 3:
-		return s[:at] + bytes[b:b+1] + s[at:]
-	case 4:
-		lines := strings.SplitAfter(s, "\n")
-		r.Shuffle(len(lines)-1, func(i, j int) { lines[i], lines[j] = lines[j], lines[i] })
-		return strings.Join(lines, "")
-	case 5:
-		return s[:at] + bytes[b%10:b%10+1] + s[at+1:]
-	}
-	return s[:at] + bytes[b:b+1] + s[at+1:]
-}
-
 func TestDisturbedTextsOfTables(t *testing.T) {
 	r := rand.New(rand.NewSource(131))
 	counts := map[bool]int{}
 	for k := range 8000 {
 		text := tableTextByHand(randomTable(r, k%3, 1+k%5))
 		for range 1 + k%2 {
-			text = disturbedTable(r, text)
+			text = disturbedLines(r, text, "01234567890123456789.:,() \n\n\t\r\x00-+")
 			if text == "" {
 				break
 			}

@@ -238,3 +238,23 @@ func textsOver(alphabet string, most int, visit func(s string)) {
 		texts = longer
 	}
 }
+
+// disturbedLines changes a text of lines at one place, to one of the bytes, or some of its words or lines.
+func disturbedLines(r *rand.Rand, s, bytes string) string {
+	at, b := r.Intn(len(s)), r.Intn(len(bytes))
+	switch r.Intn(6) {
+	case 0:
+		return shuffled(r, s, "\n")
+	case 1:
+		return shuffled(r, s, " ")
+	case 2:
+		return s[:at] + s[at+1:]
+	case 3:
+		return s[:at] + bytes[b:b+1] + s[at:]
+	case 4:
+		lines := strings.SplitAfter(s, "\n")
+		r.Shuffle(len(lines)-1, func(i, j int) { lines[i], lines[j] = lines[j], lines[i] })
+		return strings.Join(lines, "")
+	}
+	return s[:at] + bytes[b:b+1] + s[at+1:]
+}
